@@ -1,20 +1,12 @@
 """What the calls leave for one another: the picture and all that is set for it."""
 
+from solidsdrawn.limits import NoTexture
 from solidsdrawn.singles import power_of_two
 
 IDENTITY = (1, 0, 0, 0, 0, 1, 0, 0, 0, 0, 1, 0, 0, 0, 0, 1)
 FIRST_VIEW = (0, 0, 1, 1)
 FIRST_LIGHT = (0, 0, 0)
 FIRST_COLOUR = (0, 0, 0, 0)
-
-
-# Colours are tuples (blue, green, red, cover), so that pixels may share them.
-def colour_from_number(number):
-    return (number & 255, (number >> 8) & 255, (number >> 16) & 255, number >> 24)
-
-
-def colours_from_bytes(row):
-    return [tuple(row[start:start + 4]) for start in range(0, len(row), 4)]
 
 
 def small_singles(numbers):
@@ -24,6 +16,7 @@ def small_singles(numbers):
 class Texture:
     def __init__(self, log, colours):
         self.log = log
+        self.side = 1 << log
         self.colours = colours
 
 
@@ -46,3 +39,14 @@ class Canvas:
         count = self.width * self.height
         self.colours = [colour] * count
         self.depths = [depth] * count
+
+    def has_pixel(self, x, y):
+        return 0 <= x < self.width and 0 <= y < self.height
+
+    def place_of(self, x, y):
+        return y * self.width + x
+
+    def texture_at(self, k):
+        if k not in self.textures:
+            raise NoTexture()
+        return self.textures[k]

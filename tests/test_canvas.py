@@ -111,7 +111,8 @@ class Clear(unittest.TestCase):
             self.assertEqual(last(init(), clear(5, depth)), [-1])
 
     def test_all_else_stays(self):
-        told_behind = ask(init(), matrix(SCALED), light([0, 1, 0]), clear(5, 7.0), points([1, 1, 1]), normals([0, 2, 0]))
+        told_behind = ask(
+            init(), matrix(SCALED), light([0, 1, 0]), clear(5, 7.0), points([1, 1, 1]), normals([0, 2, 0]))
         self.assertEqual(told_behind[-2], [1, told(2.0), told(3.0), told(4.0), ONE])
         self.assertEqual(told_behind[-1], [0, 0, ONE, 0, ONE])
 

@@ -5,18 +5,28 @@ import io
 import unittest
 
 import solidsdrawn.picture
-from helper import ONE, ask, clear, init, light, matrix, normals, points, split, texture, told, view
+from helper import (
+    ONE, ask, clear, depth, fade, flat, fog, init, light, marks, matrix, normals, points, read, soften, split, sprite,
+    texture, told, view,
+)
 
 LONG = [
     init(8, 8), clear(0xFF00FF00, 2.0), texture(1, 2), texture(9, 2), matrix(), view([4, 4, 2, 2]),
     points([1, 1, 1, 2, 2, 2]), light([0, 0, 1]), normals([0, 0, 4]), init(0, 0), points([1, 1, 1]), init(256, 256),
     points([1, 1, 1]), normals([0, 0, 4]), points([], 300), points([]), normals([]),
+    init(2, 1), texture(0, 0, [64, 32, 16, 255]), fog(0x00202020, 0.0, 1.0), flat(z=0.5), flat(k=1), flat(k=9),
+    read(0), sprite(x=1, z=-1.5), sprite(k=4), sprite(how=5), depth(1, 0), depth(2, 0), fade(0, 64), fade(0, 200),
+    read(0), soften(), read(0), marks([0.5, 0.25, 9.0, 9.0], 0x04030201), marks([], 0, -1), read(0), read(1),
 ]
 LONG_ANSWERS = [
     [0], [0], [0], [-1], [0], [0],
     [2, 6 * ONE, 6 * ONE, ONE, ONE, 8 * ONE, 8 * ONE, 2 * ONE, ONE], [0], [0, 0, 0, ONE, ONE], [-1],
     [1, 6 * ONE, 6 * ONE, ONE, ONE], [0],
     [1, ONE, ONE, ONE, ONE], [0, 0, 0, ONE, 0], [-1], [0], [0],
+    [0], [0], [0], [1], [-2], [-1],
+    [2, 48, 32, 24, 255, 0, 0, 0, 0], [1], [-2], [-1], [0, -3 * ONE // 2], [-1], [0], [-1],
+    [2, 24, 16, 12, 127, 32, 16, 8, 127], [0], [2, 28, 16, 10, 127, 32, 16, 8, 127], [1], [-1],
+    [2, 1, 2, 3, 4, 32, 16, 8, 127], [-1],
 ]
 
 
@@ -43,6 +53,39 @@ class Lists(unittest.TestCase):
             5, 1, told(2.0), told(2.0), told(4.0), told(1.0),
             1, 0,
             5, 0, told(1.0), 0, 0, told(1.0),
+        ]
+        self.assertEqual(solidsdrawn.picture.answers(calls), expected)
+
+    def test_the_other_calls_by_their_numbers(self):
+        one = 0x3F800000
+        two = 0x40000000
+        calls = [
+            0, 2, 1,
+            2, 3, 0, 4, 200, 100, 50, 255,
+            8, 0, 0, two,
+            9, 3, 4, 21,
+            0, 0, one, one, 0, 0, one,
+            two, 0, one, one, 0, 0, one,
+            0, one, one, one, 0, 0, one,
+            1, 0x04030201, two,
+            9, 3, 4, 21,
+            0, 0, one, one, 0, 0, one,
+            two, 0, one, one, 0, 0, one,
+            0, one, one, one, 0, 0, one,
+            10, 3, 0, 1, 0, 0xBF800000,
+            14, 0,
+            15, 1, 0,
+            11, 0, 64,
+            12,
+            13, 2, 0xFFFFFFFF, 4, 0x3FF0000000000000, 0, 0x4000000000000000, 0,
+            14, 0,
+        ]
+        expected = [
+            1, 0, 1, 0, 1, 0, 1, 0, 1, 0, 1, 1, 1, 1,
+            9, 2, 100, 50, 25, 255, 200, 100, 50, 255,
+            2, 0, told(-1.0),
+            1, 0, 1, 0, 1, 1,
+            9, 2, 75, 38, 19, 127, 255, 255, 255, 255,
         ]
         self.assertEqual(solidsdrawn.picture.answers(calls), expected)
 
@@ -73,7 +116,8 @@ class Lists(unittest.TestCase):
         self.assertEqual([len(answer) for answer in given_back], [1] + [1025] * 20 + [1])
 
     def test_any_order(self):
-        calls = [init(), normals([0, 0, 4]), light([0, 0, 1]), points([1, 1, 1]), normals([0, 0, 4]), view([1, 1, 1, 1])]
+        calls = [
+            init(), normals([0, 0, 4]), light([0, 0, 1]), points([1, 1, 1]), normals([0, 0, 4]), view([1, 1, 1, 1])]
         expected = [[0], [0, 0, 0, ONE, 0], [0], [1, ONE, ONE, ONE, ONE], [0, 0, 0, ONE, ONE], [0]]
         self.assertEqual(ask(*calls), expected)
 
@@ -108,6 +152,8 @@ class NothingKept(unittest.TestCase):
         kept = list(first)
         ask(init(), matrix([2] * 16), light([1, 1, 1]), view([9, 9, 9, 9]), texture(1, 0))
         self.assertEqual(solidsdrawn.picture.answers(calls), kept)
+        ask(init(), fog(0xFFFFFFFF), texture(0, 0, [9, 9, 9, 9]), clear(7, 0.25), flat())
+        self.assertEqual(solidsdrawn.picture.answers(calls), kept)
         first.clear()
         self.assertEqual(solidsdrawn.picture.answers(calls), kept)
 
@@ -116,6 +162,10 @@ class NothingKept(unittest.TestCase):
         self.assertEqual(
             ask(init(), points([1, 2, 3]), normals([0, 0, 4])),
             [[0], [1, ONE, 2 * ONE, 3 * ONE, ONE], [0, 0, 0, ONE, 0]])
+        ask(init(1, 1), fog(0xFFFFFFFF), texture(0, 0, [9, 9, 9, 9]), clear(7, 0.25), sprite())
+        self.assertEqual(
+            ask(init(1, 1), sprite(), read(0), depth(0, 0), texture(0, 0, [4, 4, 4, 4]), flat(z=0.5), read(0)),
+            [[0], [-2], [1, 0, 0, 0, 0], [0, ONE], [0], [1], [1, 4, 4, 4, 4]])
 
     def test_nothing_is_printed(self):
         out, err = io.StringIO(), io.StringIO()

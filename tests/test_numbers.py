@@ -1,19 +1,25 @@
 """Points 1 and 3: singles, how they are rounded, what is refused; and point 2, colours."""
 
 import unittest
+from fractions import Fraction
 
 from helper import (
     LIMIT, MINUS_ZERO, NOT_FINITE, ONE, bits, init, last, light, matrix, next_down, next_up, normals,
     number_of, points, single, told, view, with_bits, Source,
 )
-from solidsdrawn.canvas import colour_from_number
+from solidsdrawn.colours import colour_from_number, mean_colour, mixed
+from solidsdrawn.floats import cut_whole, is_finite, nearest_whole, steps_from_bits
 from solidsdrawn.limits import Refused, single_within, whole_within
 from solidsdrawn.singles import (
-    is_finite, nearest_single, plus, reciprocal, reciprocal_root, single_from_bits, times, whole_root,
+    kept_whole, plus, quotient, reciprocal, reciprocal_root, times, whole_root,
 )
 
 SMALLEST = 2.0 ** -149
 SMALLEST_NORMAL = 2.0 ** -126
+
+
+def single_from_bits(pattern):
+    return steps_from_bits(pattern, 8, 23)
 
 
 def product(a, b):
@@ -49,9 +55,9 @@ class SinglesFromBits(unittest.TestCase):
 
     def test_not_finite(self):
         for pattern in NOT_FINITE:
-            self.assertFalse(is_finite(pattern))
+            self.assertFalse(is_finite(pattern, 8, 23))
         for pattern in (0, MINUS_ZERO, 1, 0x7F7FFFFF, 0xFF7FFFFF, 0x3F800000):
-            self.assertTrue(is_finite(pattern))
+            self.assertTrue(is_finite(pattern, 8, 23))
 
 
 class Answered(unittest.TestCase):
@@ -126,15 +132,65 @@ class Rounding(unittest.TestCase):
             b = source.number(4.0, -26)
             self.assertEqual(plus(told(a), told(b)), told(single(a + b)))
 
-    def test_nearest_single_of_a_ratio(self):
-        self.assertEqual(nearest_single(5, 2), 2)
-        self.assertEqual(nearest_single(7, 2), 4)
-        self.assertEqual(nearest_single(-7, 2), -4)
-        self.assertEqual(nearest_single(2 ** 24 + 1, 1), 2 ** 24)
-        self.assertEqual(nearest_single(2 ** 24 + 3, 1), 2 ** 24 + 4)
-        self.assertEqual(nearest_single(2 ** 25 - 1, 1), 2 ** 25)
-        self.assertEqual(nearest_single(3 * (2 ** 24 + 1) + 1, 3), 2 ** 24 + 2)
-        self.assertEqual(nearest_single(0, 7), 0)
+    def test_quotients(self):
+        self.assertEqual(quotient(told(1.0), told(3.0)), told(single(1 / 3)))
+        self.assertEqual(quotient(told(-2.0), told(3.0)), told(single(-2 / 3)))
+        self.assertEqual(quotient(1, told(2.0)), 0)
+        self.assertEqual(quotient(3, told(2.0)), 2)
+        self.assertEqual(quotient(5, told(2.0)), 2)
+        self.assertEqual(quotient(7, told(2.0)), 4)
+        self.assertEqual(quotient(-5, told(2.0)), -2)
+        self.assertEqual(quotient(-7, told(2.0)), -4)
+        self.assertEqual(quotient(0, told(7.0)), 0)
+
+    def test_quotients_that_are_small(self):
+        # Just off a half of the smallest step: 5/2 and 7/2 of it, and a little more or less.
+        for units, by, expected in (
+            (5, next_down(2.0), 3), (5, next_up(2.0), 2), (7, next_down(2.0), 4), (7, next_up(2.0), 3),
+            (-5, next_down(2.0), -3), (-5, next_up(2.0), -2), (1, next_down(2.0), 1), (1, next_up(2.0), 0),
+        ):
+            self.assertEqual(quotient(units, told(by)), expected, (units, by))
+        source = Source(10)
+        for _ in range(1000):
+            units = source.random.randint(-2 ** 24, 2 ** 24)
+            by = abs(source.number(2.0 ** 10, 0))
+            exact = Fraction(units) / Fraction(by)
+            found = quotient(units, told(by))
+            self.assertEqual(found, round(exact))
+
+    def test_quotients_against_floats(self):
+        # Of whole numbers, too: their unit is 1.
+        self.assertEqual(quotient(1, 3), told(single(1 / 3)))
+        self.assertEqual(quotient(768, 1024), told(0.75))
+        source = Source(9)
+        for _ in range(1000):
+            a = source.number(LIMIT, -100)
+            b = abs(source.number(LIMIT, -20))
+            self.assertEqual(quotient(told(a), told(b)), told(single(a / b)))
+
+    def test_whole_numbers_made_singles(self):
+        for number in (0, 1, 5, 2 ** 24 - 1, 2 ** 24, 2 ** 24 + 2, -(2 ** 24), 2 ** 28):
+            self.assertEqual(kept_whole(number), number)
+        self.assertEqual(kept_whole(2 ** 24 + 1), 2 ** 24)
+        self.assertEqual(kept_whole(2 ** 24 + 3), 2 ** 24 + 4)
+        self.assertEqual(kept_whole(2 ** 25 + 5), 2 ** 25 + 4)
+        self.assertEqual(kept_whole(2 ** 25 + 6), 2 ** 25 + 8)
+        self.assertEqual(kept_whole(2 ** 25 + 7), 2 ** 25 + 8)
+
+
+class Wholes(unittest.TestCase):
+    def test_the_nearest_of_two_the_even_one(self):
+        for eighths, expected in (
+            (0, 0), (3, 0), (4, 0), (5, 1), (8, 1), (11, 1), (12, 2), (13, 2), (20, 2), (21, 3), (28, 4),
+            (-3, 0), (-4, 0), (-5, -1), (-11, -1), (-12, -2), (-13, -2), (-20, -2), (-21, -3), (-28, -4),
+        ):
+            self.assertEqual(nearest_whole(eighths, 3), expected, eighths)
+        for halves in range(-9, 10):
+            self.assertEqual(nearest_whole(halves, 1), round(halves / 2))
+
+    def test_cut_towards_0(self):
+        for eighths, expected in ((0, 0), (7, 0), (8, 1), (15, 1), (16, 2), (-7, 0), (-8, -1), (-15, -1), (-16, -2)):
+            self.assertEqual(cut_whole(eighths, 3), expected, eighths)
 
 
 class Roots(unittest.TestCase):
@@ -182,6 +238,18 @@ class Colours(unittest.TestCase):
         self.assertEqual(colour_from_number(0), (0, 0, 0, 0))
         self.assertEqual(colour_from_number(4294967295), (255, 255, 255, 255))
         self.assertEqual(colour_from_number(0xFF000080), (128, 0, 0, 255))
+
+    def test_mixed_is_rounded_down(self):
+        for x, y, k, expected in (
+            (0, 255, 0, 0), (0, 255, 128, 255), (0, 255, 64, 127), (255, 0, 64, 127), (255, 0, 0, 255),
+            (255, 0, 128, 0),
+            (0, 1, 127, 0), (1, 0, 1, 0), (10, 10, 77, 10), (100, 101, 64, 100), (101, 100, 64, 100),
+        ):
+            self.assertEqual(mixed(x, y, k), expected, (x, y, k))
+
+    def test_the_mean_is_rounded_up_at_a_half(self):
+        self.assertEqual(mean_colour((0, 1, 254, 3), (0, 0, 255, 5)), (0, 1, 255, 4))
+        self.assertEqual(mean_colour((255, 0, 9, 1), (255, 255, 8, 2)), (255, 128, 9, 2))
 
 
 if __name__ == "__main__":
